@@ -1,0 +1,1 @@
+"""What's smelled when: which material of a mixture leads at which time."""

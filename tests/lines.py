@@ -1,0 +1,43 @@
+"""Writes the lists that are handed in, and takes apart those that are given back."""
+
+from smelledwhen.shelf import answers
+
+LARGEST = 4294967295
+
+
+def begins(drops):
+    return [0, drops]
+
+
+def material(strong, lasts, drops):
+    return [1, strong, lasts, drops]
+
+
+def course(*formula):
+    return [2, len(formula), *formula]
+
+
+def joined(calls):
+    return [number for call in calls for number in call]
+
+
+def split(given):
+    """What is answered call by call; the counts must fill the list exactly."""
+    rows = []
+    place = 0
+    while place < len(given):
+        count = given[place]
+        row = given[place + 1:place + 1 + count]
+        if count < 1 or len(row) != count:
+            raise AssertionError(f"the counts don't fit: {given}")
+        rows.append(row)
+        place += 1 + count
+    return rows
+
+
+def ask(*calls):
+    return split(answers(joined(calls)))
+
+
+def last(*calls):
+    return ask(*calls)[-1]
