@@ -17,6 +17,27 @@ def course(*formula):
     return [2, len(formula), *formula]
 
 
+def fewest(*order):
+    return [3, len(order), *order]
+
+
+def even(*order):
+    return [4, len(order), *order]
+
+
+def orders():
+    return [5]
+
+
+def shelf(*materials, drops=20):
+    return [begins(drops)] + [material(*numbers) for numbers in materials]
+
+
+LEMON_ROSE_CEDAR = shelf((90, 4, 5), (30, 16, 5), (10, 24, 5))
+# With one drop of each: 100 - 50t, 30 - 5t, 16 - 4t/3 and 8 - t/3 lead one after another.
+FOUR_IN_TURN = shelf((8, 24, 1), (100, 2, 1), (16, 12, 1), (30, 6, 1))
+
+
 def joined(calls):
     return [number for call in calls for number in call]
 

@@ -2,14 +2,7 @@ import random
 import unittest
 
 from tests import reference
-from tests.lines import LARGEST, ask, begins, course, last, material
-
-
-def shelf(*materials, drops=20):
-    return [begins(drops)] + [material(*numbers) for numbers in materials]
-
-
-LEMON_ROSE_CEDAR = shelf((90, 4, 5), (30, 16, 5), (10, 24, 5))
+from tests.lines import FOUR_IN_TURN, LARGEST, LEMON_ROSE_CEDAR, ask, begins, course, last, material, shelf
 
 
 class WithNothing(unittest.TestCase):
@@ -46,9 +39,7 @@ class WhoLeads(unittest.TestCase):
         self.assertEqual(last(*line, course(1, 1, 1)), [24, 2, 3, 1, 11, 0, 10])
 
     def test_four_one_after_another(self):
-        # 100 - 50t, 30 - 5t, 16 - 4t/3 and 8 - t/3.
-        line = shelf((8, 24, 1), (100, 2, 1), (16, 12, 1), (30, 6, 1))
-        self.assertEqual(last(*line, course(1, 1, 1, 1)), [24, 1, 2, 3, 2, 2, 4, 0, 16])
+        self.assertEqual(last(*FOUR_IN_TURN, course(1, 1, 1, 1)), [24, 1, 2, 3, 2, 2, 4, 0, 16])
 
     def test_all_drops_count(self):
         line = shelf((10, 2, 5), (12, 4, 5))
